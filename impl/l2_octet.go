@@ -194,11 +194,20 @@ func (c *octCursor) tlv() (OctTlv, error) {
 
 // body reads a body of a length that was told, and what fills it up; a length that is too small is found here, below 0.
 func (c *octCursor) body(length int) ([]byte, error) {
-	if length < 0 {
-		return nil, octFault{octCut}
-	}
 	if length > OctMaxBody {
 		return nil, octFault{octTooBig}
+	}
+	part, err := c.filled(length)
+	if err != nil {
+		return nil, err
+	}
+	return append([]byte(nil), part...), nil
+}
+
+// filled takes so many bytes, and what fills them up behind them; they are still those of the argument.
+func (c *octCursor) filled(length int) ([]byte, error) {
+	if length < 0 {
+		return nil, octFault{octCut}
 	}
 	part, err := c.take(length + octFill(length))
 	if err != nil {
@@ -209,5 +218,5 @@ func (c *octCursor) body(length int) ([]byte, error) {
 			return nil, octFault{octNoZero}
 		}
 	}
-	return append([]byte(nil), part[:length]...), nil
+	return part[:length], nil
 }

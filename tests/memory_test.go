@@ -179,3 +179,25 @@ func TestMemoryIsSeen(t *testing.T) {
 		t.Errorf("%v", spans)
 	}
 }
+
+// numbersOf are the places of all numbers of a value, in order; v is where it is.
+func numbersOf(v any) []*int {
+	return numbersIn(reflect.ValueOf(v).Elem())
+}
+
+func numbersIn(v reflect.Value) []*int {
+	var out []*int
+	switch v.Kind() {
+	case reflect.Struct:
+		for i := range v.NumField() {
+			out = append(out, numbersIn(v.Field(i))...)
+		}
+	case reflect.Slice:
+		for i := range v.Len() {
+			out = append(out, numbersIn(v.Index(i))...)
+		}
+	case reflect.Int:
+		out = append(out, v.Addr().Interface().(*int))
+	}
+	return out
+}

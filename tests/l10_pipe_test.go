@@ -186,16 +186,25 @@ func walk(t *testing.T, chance *rand.Rand, p impl.DatPipe, steps int) impl.DatPi
 // checkGot is P19: stream by stream what was got is a beginning of what was given; none that is loose was got more often than given.
 func checkGot(t *testing.T, p impl.DatPipe) {
 	t.Helper()
+	checkBeginning(t, p.Given, p.Got)
+	if !impl.DatPipeOk(p) || !slowPipeOk(p) {
+		t.Fatalf("%v is not ok", p)
+	}
+}
+
+// checkBeginning says whether what was got is, stream by stream, a beginning of what was given, and of those that are loose none was got more often than given.
+func checkBeginning(t *testing.T, allGiven []impl.DatUnit, allGot []impl.DatUnit) {
+	t.Helper()
 	given, got := map[int][]string{}, map[int][]string{}
 	loose := map[string]int{}
-	for _, u := range p.Given {
+	for _, u := range allGiven {
 		if u.Loose {
 			loose[strconv.Itoa(u.Stream)+string(u.Body)]++
 		} else {
 			given[u.Stream] = append(given[u.Stream], string(u.Body))
 		}
 	}
-	for _, u := range p.Got {
+	for _, u := range allGot {
 		if u.Mark != 0 {
 			t.Fatalf("%v was got", u)
 		}
@@ -214,9 +223,6 @@ func checkGot(t *testing.T, p impl.DatPipe) {
 		if n < 0 {
 			t.Fatalf("%q was got more often than given", name)
 		}
-	}
-	if !impl.DatPipeOk(p) || !slowPipeOk(p) {
-		t.Fatalf("%v is not ok", p)
 	}
 }
 

@@ -910,6 +910,18 @@ func TestTrunkStepOfOtherNodes(t *testing.T) {
 	for ctx := -1; ctx <= 10; ctx += 11 {
 		checkNothing(t, busy, evWant(3, ctx, true), evWant(3, ctx, false))
 	}
+	// Whatever is not MsgActive is not to be wished.
+	for kind := -1; kind <= 16; kind++ {
+		e := evWant(3, 9, true)
+		e.Word.Kind, e.Word.Num = kind, 1
+		if got := checkStep(t, busy, e); slices.Contains(got.Hosts[1].Book.Wish, 9) != (kind == impl.MsgActive) {
+			t.Errorf("kind %d: %v", kind, got.Hosts[1].Book.Wish)
+		}
+		e.N = 2
+		if got := checkStep(t, busy, e); slices.Contains(got.Hosts[1].Book.Wish, 2) != (kind == impl.MsgActive) {
+			t.Errorf("kind %d: %v", kind, got.Hosts[1].Book.Wish)
+		}
+	}
 }
 
 // P2: each event that there is, at each place of each good world.
@@ -1371,6 +1383,239 @@ func TestTrunkServerCannotSay(t *testing.T) {
 	}
 	if !sameValue(v.Air, []impl.TrunkAir{{From: 22, To: 2, Bytes: framed(w.Gates[0].Ends[0], impl.FrmChunk{Kind: impl.FrmAbort})}}) {
 		t.Errorf("%v", v.Air)
+	}
+}
+
+// bodiesTo is a frame of the epoch to an end, with units that come whole, as the next ones of the stream 0.
+func bodiesTo(e impl.TrunkEnd, bodies ...[]byte) []byte {
+	tsn := e.In.Cum
+	var chunks []impl.FrmChunk
+	for n, body := range bodies {
+		pieces := slowBodies(impl.DatUnit{Body: body})
+		for at, piece := range pieces {
+			tsn = onward(tsn, 1)
+			p := impl.DatPiece{Tsn: tsn, Ssn: (e.In.Ssns[0] + n) % 65536, First: at == 0, Last: at == len(pieces)-1, Body: piece}
+			chunks = append(chunks, chunkOf(p))
+		}
+	}
+	return framed(e, chunks...)
+}
+
+func wordsTo(e impl.TrunkEnd, words ...impl.MsgWord) []byte {
+	var bodies [][]byte
+	for _, w := range words {
+		bodies = append(bodies, slowMsg(w))
+	}
+	return bodiesTo(e, bodies...)
+}
+
+// clog lets so many messages wait at an end, behind as many as may be under way; what goes out is lost.
+func clog(e *impl.TrunkEnd, count int) {
+	for n := 0; len(e.Out.Queue) < count; n++ {
+		*e, _, _ = impl.TrunkPush(*e, impl.DatUnit{Body: slowMsg(impl.MsgWord{Kind: impl.MsgAsk, Num: n})})
+	}
+}
+
+// heardBy brings bytes to the end at a place of a node, by its first way.
+func heardBy(t *testing.T, w impl.TrunkWorld, e impl.TrunkEnd, b []byte) impl.TrunkWorld {
+	t.Helper()
+	w = roomy(w)
+	w.Air = []impl.TrunkAir{{From: 2 * e.Line.Peer, To: 2 * e.Line.Me, Bytes: b}}
+	return checkStep(t, w, evBring(0))
+}
+
+// Each message that there is, at each end that is up, and bytes that are none.
+func TestTrunkHearsEachMessage(t *testing.T) {
+	heard := 0
+	for _, w := range []impl.TrunkWorld{busyWorld(), quietWorld(), oneOf(impl.KeyAll, 3)} {
+		for _, e := range allEnds(w) {
+			if e.Line.State != impl.AscUp {
+				continue
+			}
+			for kind := impl.MsgUp; kind <= impl.MsgBad; kind++ {
+				for ctx := 1; ctx <= 8; ctx++ {
+					word := msgOf(kind)
+					if slices.Contains(msgRanged, kind) {
+						word.Ctx = ctx
+					} else if ctx > 5 {
+						continue
+					}
+					if slices.Contains(msgNumbered, kind) {
+						word.Num = ctx % 5
+					}
+					heardBy(t, w, e, wordsTo(e, word))
+					heardBy(t, w, e, wordsTo(e, impl.MsgWord{Kind: impl.MsgAsk, Num: 7}, word))
+					heard++
+				}
+			}
+			whole := slowMsg(impl.MsgWord{Kind: impl.MsgIdle, Ctx: 2})
+			for _, body := range [][]byte{{1}, whole[:15], append(slices.Clone(whole), 0, 0, 0, 0), make([]byte, 48)} {
+				v := heardBy(t, w, e, bodiesTo(e, body))
+				u := heardBy(t, w, e, bodiesTo(e, body, whole))
+				if !sameValue(allBooks(v), allBooks(w)) || !sameValue(allBooks(u), allBooks(heardBy(t, w, e, wordsTo(e, impl.MsgWord{Kind: impl.MsgIdle, Ctx: 2})))) {
+					t.Errorf("%v is heard", body)
+				}
+			}
+		}
+	}
+	if heard < 800 {
+		t.Errorf("%d messages", heard)
+	}
+}
+
+// books are those of all nodes.
+type books struct {
+	gates []impl.SrvBook
+	hosts []impl.AspBook
+}
+
+func allBooks(w impl.TrunkWorld) books {
+	var out books
+	for _, g := range w.Gates {
+		out.gates = append(out.gates, g.Book)
+	}
+	for _, h := range w.Hosts {
+		out.hosts = append(out.hosts, h.Book)
+	}
+	return out
+}
+
+// A gateway that says back what it cannot, and so shuts the line, hears no unit behind that.
+func TestTrunkGatewayHearsNothingBehindAShutLine(t *testing.T) {
+	w := oneOf(impl.KeyShare, 2)
+	e := &w.Gates[0].Ends[0]
+	clog(e, 12)
+	v := heardBy(t, w, *e, wordsTo(*e, impl.MsgWord{Kind: impl.MsgAsk, Num: 5}, impl.MsgWord{Kind: impl.MsgUp}, impl.MsgWord{Kind: impl.MsgActive, Ctx: 2}))
+	if g := v.Gates[0]; g.Ends[0].Line.State != impl.AscClosed || g.Book.Servers[0].Up || !g.Book.Servers[1].Up || g.Ends[1].Line.State != impl.AscUp {
+		t.Errorf("%v", g)
+	}
+	// With room for one answer the second message is heard, and shuts it.
+	e.Out.Queue = e.Out.Queue[:11]
+	v = heardBy(t, w, *e, wordsTo(*e, impl.MsgWord{Kind: impl.MsgAsk, Num: 5}))
+	if g := v.Gates[0]; g.Ends[0].Line.State != impl.AscUp || !g.Book.Servers[0].Up {
+		t.Errorf("%v", g)
+	}
+}
+
+func TestTrunkServerHearsNothingBehindAShutLine(t *testing.T) {
+	w := oneOf(impl.KeyShare, 2)
+	e := &w.Hosts[0].Ends[0]
+	clog(e, 12)
+	unit := impl.MsgWord{Kind: impl.MsgData, Ctx: 2, Num: 1, Dest: 500, Sls: 1, Body: []byte{1}}
+	idle := impl.MsgWord{Kind: impl.MsgState, Ctx: 2, Num: impl.SrvIdle}
+	for _, words := range [][]impl.MsgWord{{idle, unit}, {idle, {Kind: impl.MsgUpAck}}, {idle, {Kind: impl.MsgUpAck}, {Kind: impl.MsgJam, Num: 2}, unit}} {
+		v := heardBy(t, w, *e, wordsTo(*e, words...))
+		if h := v.Hosts[0]; len(v.Got) != 0 || h.Ends[0].Line.State != impl.AscClosed || !sameValue(h.Book.Gates[0], impl.AspGate{Gate: 1}) {
+			t.Errorf("%v: %v", words, v)
+		}
+	}
+	// Units ahead of it are got.
+	v := heardBy(t, w, *e, wordsTo(*e, unit, idle))
+	if !slices.Equal(v.Got, []impl.TrunkGot{{Host: 11, Gate: 1, Mark: 1, Sls: 1}}) {
+		t.Errorf("%v", v.Got)
+	}
+}
+
+// A server that asks for a range is shut when it cannot be answered; what waited in the range was to be said to it, and is dropped.
+func TestTrunkUnitsToAShutLine(t *testing.T) {
+	w := checkStep(t, oneOf(impl.KeyShare, 1), evWant(1, 2, false), evBring(0))
+	w.Air = nil
+	w = checkStep(t, w, evGive(0, 500, 1), evGive(0, 501, 2), evGive(0, 502, 1))
+	if classes := whereAll(w); !slices.Equal(classes, []int{2, 2, 2}) {
+		t.Fatalf("%v", classes)
+	}
+	clog(&w.Gates[0].Ends[0], 12)
+	e := w.Gates[0].Ends[0]
+	v := heardBy(t, w, e, wordsTo(e, impl.MsgWord{Kind: impl.MsgActive, Ctx: 2}))
+	if !slices.Equal(v.Drops, []impl.SrvDrop{{Mark: 1, Why: 6}, {Mark: 2, Why: 6}, {Mark: 3, Why: 6}}) || v.Gates[0].Book.Ranges[0].State != impl.SrvPending || v.Gates[0].Book.Ranges[0].Left != 5 {
+		t.Errorf("%v %v", v.Drops, v.Gates[0].Book)
+	}
+}
+
+// Units of a range that another one serves wait at an end whose epoch is lost: they are given anew, though who serves the range stays.
+func TestTrunkUnitsOfAnothersRange(t *testing.T) {
+	keys := []impl.KeyRow{{Ctx: 2, Low: 500, High: 509, Mode: impl.KeyShare}, {Ctx: 3, Low: 600, High: 609, Mode: impl.KeyShare}}
+	w := servedWorld(keys, []int{1}, []impl.TrunkWish{{Name: 11, Wish: []int{2}}, {Name: 12, Wish: []int{3}}})
+	for mark := 1; mark <= 2; mark++ {
+		u := give(mark, 600, 1)
+		w.Given = append(w.Given, impl.TrunkGiven{Gate: 1, Unit: u})
+		body := slowMsg(impl.MsgWord{Kind: impl.MsgData, Ctx: 3, Num: mark, Dest: 600, Sls: 1, Body: u.Body})
+		w.Gates[0].Ends[0].Out.Queue = append(w.Gates[0].Ends[0].Out.Queue, impl.DatUnit{Mark: mark, Stream: 1, Body: body})
+	}
+	v := checkStep(t, w, evClose(0, 0, true))
+	if classes := whereAll(v); !slices.Equal(classes, []int{4, 4}) || len(v.Gates[0].Ends[1].Out.Flight) == 0 {
+		t.Errorf("%v", classes)
+	}
+}
+
+// A tick drops what has waited too long ahead of what follows from telling so.
+func TestTrunkTickDropsFirst(t *testing.T) {
+	keys := []impl.KeyRow{{Ctx: 2, Low: 500, High: 509, Mode: impl.KeyOne}, {Ctx: 3, Low: 600, High: 609, Mode: impl.KeyOne}}
+	w := servedWorld(keys, []int{1}, []impl.TrunkWish{{Name: 11, Wish: []int{2}}, {Name: 12, Wish: []int{3}}})
+	w = checkStep(t, w, evClose(0, 0, true), evGive(0, 500, 1), evGive(0, 600, 1))
+	clog(&w.Gates[0].Ends[1], 12)
+	for range 5 {
+		if len(w.Drops) != 0 {
+			t.Fatalf("%v", w.Drops)
+		}
+		w = checkStep(t, w, evTick(0))
+	}
+	if !slices.Equal(w.Drops, []impl.SrvDrop{{Mark: 1, Why: impl.SrvExpired}, {Mark: 2, Why: impl.SrvEnded}}) || w.Gates[0].Ends[1].Line.State != impl.AscClosed {
+		t.Errorf("%v", w.Drops)
+	}
+}
+
+// One line is shut while it is told that another one is lost: what follows from the one is done ahead of what else is to be said of the other.
+func TestTrunkShutsWhileItTells(t *testing.T) {
+	keys := []impl.KeyRow{{Ctx: 2, Low: 500, High: 509, Mode: impl.KeyShare}, {Ctx: 3, Low: 600, High: 609, Mode: impl.KeyOne}}
+	w := servedWorld(keys, []int{1}, []impl.TrunkWish{{Name: 11, Wish: []int{3}}, {Name: 12, Wish: []int{2}}, {Name: 13, Wish: []int{2}}})
+	for range 5 {
+		w = checkStep(t, w, evGive(0, 500, 1))
+	}
+	w = checkStep(t, w, evGive(0, 500, 2), evGive(0, 600, 1))
+	if got := queued(w); !slices.Equal(got[2], []int{3, 4, 5}) {
+		t.Fatalf("%v", got)
+	}
+	clog(&w.Gates[0].Ends[1], 12)
+	v := checkStep(t, w, evClose(0, 0, true))
+	if got := queued(v); !slices.Equal(got[2], []int{3, 4, 5, 0}) || v.Gates[0].Ends[1].Line.State != impl.AscClosed {
+		t.Errorf("%v", got)
+	}
+	if !slices.Equal(v.Drops, []impl.SrvDrop{{Mark: 7, Why: 6}, {Mark: 6, Why: 6}}) {
+		t.Errorf("%v", v.Drops)
+	}
+}
+
+// A cookie that the node itself has baked begins an epoch, and another one in the place of one that is up; a server says then that it is up, a gateway has lost what it had.
+func TestTrunkEpochsByCookies(t *testing.T) {
+	w := checkStep(t, oneOf(impl.KeyShare, 2), evGive(0, 500, 0), evGive(0, 500, 0), evGive(0, 500, 0))
+	for _, e := range []impl.TrunkEnd{w.Gates[0].Ends[0], w.Hosts[0].Ends[0]} {
+		line := e.Line
+		tag := line.Tag + 1
+		k := impl.AscCookie{Me: line.Me, Peer: line.Peer, Tag: tag, PeerTag: 900, Tsn: 70, PeerTsn: 80, Streams: 2, Made: w.Now, OldTag: line.Tag, OldPeerTag: line.PeerTag}
+		b := slowFrame(toEnd(line, tag, impl.FrmChunk{Kind: impl.FrmEcho, Body: impl.AscBake(line.Secret, k)}))
+		v := heardBy(t, w, e, b)
+		if line.Me == 1 {
+			if g := v.Gates[0]; g.Ends[0].Line.Tag != tag || g.Book.Servers[0].Up || !slices.Equal(whereAll(v), []int{16, 16, 4}) {
+				t.Errorf("%v", v)
+			}
+		} else if h := v.Hosts[0]; h.Ends[0].Line.Tag != tag || !sameValue(h.Book.Gates[0], impl.AspGate{Gate: 1}) || len(h.Ends[0].Out.Flight) != 1 || len(v.Air) != 2 {
+			t.Errorf("%v", v)
+		}
+		closed := roomy(w)
+		at := 0
+		if line.Me == 1 {
+			closed = checkStep(t, closed, evClose(0, 0, true))
+			e = closed.Gates[0].Ends[0]
+		} else {
+			at = 1
+			closed = checkStep(t, closed, evClose(1, 0, true))
+			e = closed.Hosts[0].Ends[0]
+		}
+		v = heardBy(t, closed, e, b)
+		if at == 0 && (v.Gates[0].Ends[0].Line.Tag != tag || len(v.Air) != 1) || at == 1 && (v.Hosts[0].Ends[0].Line.Tag != tag || len(v.Air) != 2) {
+			t.Errorf("%v", v)
+		}
 	}
 }
 

@@ -77,7 +77,11 @@ func (s *stroll) event() impl.TrunkEvent {
 	case n < 198:
 		return s.forges()
 	}
-	return impl.TrunkEvent{Kind: chance.Intn(16) - 1, At: chance.Intn(50) - 5, N: chance.Intn(5), Unit: give(3, 999, 1)}
+	e := impl.TrunkEvent{Kind: chance.Intn(16) - 1, At: chance.Intn(50) - 5, N: chance.Intn(5), Unit: give(3, 999, 1)}
+	if e.Kind == impl.TrunkClocks || e.Kind == impl.TrunkForges {
+		e.At = 0
+	}
+	return e
 }
 
 // dest is a destination, mostly of some range.

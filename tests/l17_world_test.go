@@ -1194,13 +1194,6 @@ func TestTrunkNowAtAscMaxTick(t *testing.T) {
 	if got := impl.TrunkCalmly(w, 3, -1); got.Now != 1000000 || !impl.TrunkServed(got) {
 		t.Errorf("%v", got)
 	}
-	// Where it stands there is no matter to clocks, nor to who forges.
-	for _, at := range []int{-1, 0, 5, math.MaxInt, math.MinInt} {
-		v := checkStep(t, oneOf(impl.KeyOne, 1), impl.TrunkEvent{Kind: impl.TrunkClocks, At: at}, impl.TrunkEvent{Kind: impl.TrunkForges, At: at, Air: impl.TrunkAir{From: 1, To: 2}})
-		if v.Now != 6 || len(v.Air) != 1 {
-			t.Errorf("at %d: %v", at, v)
-		}
-	}
 }
 
 // whereAll tells where each unit that was given is.
